@@ -1,0 +1,1 @@
+"""Rows of rules of which the first one decides."""

@@ -1,0 +1,83 @@
+"""Which values have the form that an argument needs.
+
+Each function takes every value, also one that is nested very deep: an item
+is looked at only after its kind is known, and no deeper than the form goes.
+"""
+
+from rulerows.errors import BadValue
+
+
+def need(holds, name):
+    """Raise BadValue with the name of an argument unless its form holds."""
+    if not holds:
+        raise BadValue(name)
+
+
+def is_integer(value, low, high):
+    """True if the value is an integer from low to high."""
+    # To Python, True and False are integers, too.
+    return isinstance(value, int) and not isinstance(value, bool) and low <= value <= high
+
+
+def is_tuple(value, fewest, most):
+    """True if the value is a tuple with so many items."""
+    return isinstance(value, tuple) and fewest <= len(value) <= most
+
+
+def is_action(value):
+    return is_integer(value, 0, 5)
+
+
+def is_widths(value):
+    return is_tuple(value, 1, 3) and all(is_integer(width, 1, 8) for width in value)
+
+
+def is_case(widths, value):
+    """True if the value is a case of these widths."""
+    if not is_tuple(value, len(widths), len(widths)):
+        return False
+    return all(is_integer(item, 0, width - 1) for item, width in zip(value, widths))
+
+
+def is_range(width, value):
+    """True if the value is a range of a field of this width."""
+    if not is_tuple(value, 2, 2):
+        return False
+    low, high = value
+    return is_integer(low, 0, width - 1) and is_integer(high, low, width - 1)
+
+
+def is_rule(widths, value):
+    """True if the value is a rule for these widths."""
+    if not is_tuple(value, 2, 2):
+        return False
+    action, ranges = value
+    if not is_action(action) or not is_tuple(ranges, len(widths), len(widths)):
+        return False
+    return all(is_range(width, item) for item, width in zip(ranges, widths))
+
+
+def is_listed(value):
+    """True if the value is a list in the document's sense."""
+    if not is_tuple(value, 3, 3):
+        return False
+    widths, rules, rest = value
+    if not is_widths(widths) or not is_tuple(rules, 0, 7):
+        return False
+    return all(is_rule(widths, rule) for rule in rules) and is_action(rest)
+
+
+def is_number(listed, value):
+    """True if the value is the number of a rule of the list."""
+    return is_integer(value, 0, len(listed[1]) - 1)
+
+
+def is_numbers(listed, value):
+    """True if the value is a tuple of different numbers of rules of the list."""
+    if not is_tuple(value, 0, len(listed[1])):
+        return False
+    return all(is_number(listed, item) for item in value) and len(set(value)) == len(value)
+
+
+def is_row(listed, value):
+    return is_numbers(listed, value) and len(value) == len(listed[1])

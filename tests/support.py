@@ -1,0 +1,216 @@
+"""What the tests share: a strict comparison, wrong values, and lists to try."""
+
+import doctest
+import itertools
+import random
+import unittest
+
+from rulerows.errors import BadValue, RowError
+
+
+def kinds(value):
+    """The value with the kind of each part, so that 1 and True, () and [] differ."""
+    if isinstance(value, (tuple, list)):
+        return (type(value).__name__, [kinds(item) for item in value])
+    return (type(value).__name__, value)
+
+
+class RowsTest(unittest.TestCase):
+
+    def same(self, got, expected, told=None):
+        self.assertEqual(got, expected, told)
+        self.assertEqual(kinds(got), kinds(expected), told)
+
+    def bad(self, name, function, *arguments):
+        """The call raises BadValue with this name, and no other class of ours."""
+        try:
+            got = function(*arguments)
+        except RowError as error:
+            self.assertIs(type(error), BadValue)
+            self.assertEqual(kinds(error.name), kinds(name), (function.__name__, arguments))
+        else:
+            self.fail(f"{function.__name__}{short(arguments)} returned {short(got)}, not BadValue({name!r})")
+
+    def check_arguments(self, function, *parameters):
+        """Each parameter is told by its name, a good value and all wrong ones.
+
+        Each wrong value comes alone, and with wrong values in all places behind it.
+        """
+        for at, (name, _, wrong_ones) in enumerate(parameters):
+            ahead = [good for _, good, _ in parameters[:at]]
+            behind = [good for _, good, _ in parameters[at + 1:]]
+            for number, wrong in enumerate(wrong_ones):
+                self.bad(name, function, *ahead, wrong, *behind)
+                wrong_behind = [
+                    others[number % len(others)] if others else None for _, _, others in parameters[at + 1:]
+                ]
+                self.bad(name, function, *ahead, wrong, *wrong_behind)
+
+    def check_examples(self, text):
+        test = doctest.DocTestParser().get_doctest(text, {}, "examples", None, 0)
+        said = []
+        result = doctest.DocTestRunner(verbose=False).run(test, out=said.append)
+        self.assertEqual(result.failed, 0, "".join(said))
+        self.assertGreater(result.attempted, 0)
+
+
+def short(value):
+    """How the value looks, cut off; a very deep value has no look at all."""
+    try:
+        return repr(value)[:300]
+    except RecursionError:
+        return "(a deep value)"
+
+
+def deep(levels=100000):
+    """A tuple that is nested very deep."""
+    value = ()
+    for _ in range(levels):
+        value = (value,)
+    return value
+
+
+# The list of point 18, with three rules so that most tuples of numbers are no rows.
+LISTED = ((4, 3), ((1, ((0, 1), (0, 2))), (2, ((1, 3), (1, 2))), (1, ((2, 2), (0, 1)))), 0)
+
+ODD_VALUES = (
+    None, True, False, 0, 1, -1, 7, 10 ** 30, "", "0", "list", (), [], ((),), [()], (None,), (True,),
+    ("self",), ["self"], ((4,), (), 0, 0), [(4,), (), 0], (((),),), ("by", 0), ("cut", 0, 1),
+)
+
+RULE = (1, ((0, 1), (0, 2)))
+LAST_RULE = (2, ((1, 3), (1, 2)))
+
+
+def with_rule(rule):
+    """The list with this rule behind a right one and ahead of a right one."""
+    return ((4, 3), (RULE, rule, LAST_RULE), 0)
+
+
+def with_ends(low, high, in_last=True):
+    """The list with these ends of the range of one field."""
+    if in_last:
+        return with_rule((1, ((0, 1), (low, high))))
+    return with_rule((1, ((low, high), (0, 1))))
+
+
+NOT_LISTS = tuple([value for value in ODD_VALUES]) + (
+    # Not three items, or a list instead of a tuple.
+    ((4, 3), (RULE,)), ((4, 3), (RULE,), 0, 0), [(4, 3), (RULE,), 0], ((4, 3),), "ab0", (4, (), 0), (0, 0, 0),
+    # Widths.
+    ((), (), 0), ((4, 4, 4, 4), (), 0), ([4, 3], (RULE,), 0), ((0,), (), 0), ((9,), (), 0), ((4, 0), (), 0),
+    ((4, 9), (), 0), ((4, 3, 9), (), 0), ((-1,), (), 0), ((True,), (), 0), ((4, True), (), 0), ((None,), (), 0),
+    (("4",), (), 0), (((4,),), (), 0), (4, (), 0), ("4", (), 0), (None, (), 0), ((8, 8, 8, 1), (), 0),
+    # Rules that are no tuple of rules, or too many.
+    ((4, 3), [RULE], 0), ((4, 3), [], 0), ((4, 3), None, 0), ((4, 3), 0, 0), ((4, 3), "", 0), ((4, 3), RULE, 0),
+    ((4, 3), (RULE,) * 8, 0), ((4, 3), (RULE,) * 9, 0), ((4, 3), "abc", 0), ((4, 3), False, 0),
+    # Rules of a wrong form.
+    with_rule(None), with_rule(()), with_rule((1,)), with_rule(list(RULE)), with_rule((*RULE, 0)), with_rule("ab"),
+    with_rule(((0, 1), (0, 2))), with_rule(1), with_rule(((0, 1), (0, 2), 1)),
+    # Actions of rules.
+    with_rule((6, RULE[1])), with_rule((-1, RULE[1])), with_rule((True, RULE[1])), with_rule((False, RULE[1])),
+    with_rule((None, RULE[1])), with_rule(("1", RULE[1])), with_rule(((1,), RULE[1])), with_rule((7, RULE[1])),
+    # Ranges.
+    with_rule((1, list(RULE[1]))), with_rule((1, ((0, 1),))), with_rule((1, ((0, 1), (0, 2), (0, 0)))),
+    with_rule((1, ())), with_rule((1, None)), with_rule((1, ((0, 1), [0, 2]))), with_rule((1, ([0, 1], (0, 2)))),
+    with_rule((1, ((0, 1), None))), with_rule((1, ((0, 1), (0,)))), with_rule((1, ((0, 1), (0, 1, 2)))),
+    with_rule((1, ((0, 1), ()))), with_rule((1, ((0, 1), 0))), with_rule((1, "ab")), with_rule((1, (0, 1))),
+    with_ends(2, 1), with_ends(1, 0), with_ends(-1, 1), with_ends(0, 3), with_ends(3, 3), with_ends(-2, -1),
+    with_ends(True, 2), with_ends(0, True), with_ends(False, 2), with_ends(False, False), with_ends(True, True),
+    with_ends(None, 2), with_ends(0, None), with_ends("0", "1"), with_ends((0,), (1,)),
+    with_ends(3, 2, False), with_ends(-1, 3, False), with_ends(0, 4, False), with_ends(4, 4, False),
+    with_ends(True, 2, False), with_ends(0, True, False), with_ends(0, None, False),
+    ((1,), ((1, ((0, 1),)),), 0), ((8,), ((1, ((0, 8),)),), 0), ((8, 8), ((1, ((0, 7), (0, 8))),), 0),
+    # A wrong rule in the first and in the last place.
+    ((4, 3), ((6, RULE[1]), RULE), 0), ((4, 3), (RULE,) * 6 + ((6, RULE[1]),), 0),
+    # The rest.
+    ((4, 3), (RULE,), 6), ((4, 3), (RULE,), -1), ((4, 3), (RULE,), True), ((4, 3), (RULE,), False),
+    ((4, 3), (RULE,), None), ((4, 3), (RULE,), "0"), ((4, 3), (RULE,), (0,)), ((4, 3), (), 6), ((4, 3), (), False),
+)
+
+# All of these are wrong for LISTED.
+NOT_NUMBERS = (3, -1, 4, 7, 10 ** 30, True, False, None, "0", "", (), (0,), [0], [])
+NOT_ROWS = (
+    (), (0,), (0, 1), (0, 1, 2, 2), (0, 1, 2, 3), (0, 1, 1), (0, 0, 0), (0, 1, 3), (1, 2, 3), (-1, 0, 1), (0, 1, -1),
+    [0, 1, 2], [], (0, True, 2), (False, 1, 2), (0, 1, None), (0, 1, "2"), ("0", "1", "2"), (0, 1, (2,)), (0, 1, [2]),
+    "012", 0, 3, 12, None, True, False, ((0, 1, 2),), (0, 2, 1, 0), (2, 1),
+)
+NOT_CASES = (
+    (4, 0), (0, 3), (-1, 0), (0, -1), (0,), (0, 0, 0), (), [0, 0], [], (True, 0), (0, True), (False, 0), (0, False),
+    (None, 0), (0, None), ("0", 0), (0, "0"), "00", 0, None, True, ((0,), 0), (0, [0]), ((0, 0),), (7, 7), (3, 3),
+)
+
+
+def all_cases(widths):
+    return list(itertools.product(*[range(width) for width in widths]))
+
+
+def all_rows(listed):
+    return list(itertools.permutations(range(len(listed[1]))))
+
+
+def all_sets(listed):
+    numbers = range(len(listed[1]))
+    return [chosen for many in range(len(numbers) + 1) for chosen in itertools.combinations(numbers, many)]
+
+
+def matching(listed, case):
+    """All rules that match the case, as the document says it, value for value."""
+    found = []
+    for number, (_, ranges) in enumerate(listed[1]):
+        if [k for k in range(len(case)) if case[k] < ranges[k][0] or case[k] > ranges[k][1]] == []:
+            found.append(number)
+    return tuple(found)
+
+
+def deciding(listed, row, case):
+    """The number of the decider, or None, and the decision."""
+    found = matching(listed, case)
+    standing = [number for number in row if number in found]
+    if not standing:
+        return None, listed[2]
+    return standing[0], listed[1][standing[0]][0]
+
+
+def ascending(listed):
+    return tuple(range(len(listed[1])))
+
+
+def random_rule(rng, widths, actions):
+    ranges = []
+    for width in widths:
+        ends = sorted([rng.randrange(width), rng.randrange(width)])
+        ranges.append((0, width - 1) if rng.random() < 0.2 else tuple(ends))
+    return (rng.randrange(actions), tuple(ranges))
+
+
+def random_list(rng, most_rules=7, most_cases=64):
+    while True:
+        widths = tuple([rng.randint(1, 8) for _ in range(rng.randint(1, 3))])
+        if len(all_cases(widths)) <= most_cases:
+            break
+    actions = rng.choice((2, 3, 6))
+    rules = tuple([random_rule(rng, widths, actions) for _ in range(rng.randint(0, most_rules))])
+    return (widths, rules, rng.randrange(actions))
+
+
+def some_lists(seed, many, most_rules=7, most_cases=64):
+    rng = random.Random(seed)
+    return [random_list(rng, most_rules, most_cases) for _ in range(many)]
+
+
+EDGE_LISTS = (
+    ((1,), (), 0),
+    ((8,), (), 5),
+    ((1,), ((0, ((0, 0),)),), 5),
+    ((1, 1, 1), ((5, ((0, 0), (0, 0), (0, 0))), (0, ((0, 0), (0, 0), (0, 0)))), 3),
+    ((8,), tuple([(number % 6, ((number, number),)) for number in range(7)]), 5),
+    ((8, 8), tuple([(number % 3, ((0, number), (number, 7))) for number in range(7)]), 0),
+    ((2, 8, 1), ((4, ((1, 1), (0, 7), (0, 0))), (3, ((0, 1), (7, 7), (0, 0)))), 4),
+    LISTED,
+)
+WIDEST = (
+    (8, 8, 8),
+    ((1, ((0, 7), (0, 3), (2, 5))), (2, ((4, 7), (0, 7), (0, 7))), (1, ((7, 7), (7, 7), (7, 7)))),
+    0,
+)
