@@ -10,7 +10,7 @@ def all_cases(widths):
 
 
 def rule_matches(rule, case):
-    return all(low <= value <= high for value, (low, high) in zip(case, rule[1]))
+    return all([low <= value <= high for value, (low, high) in zip(case, rule[1])])
 
 
 def matching_set(rules, case):
@@ -36,3 +36,18 @@ def action_for(listed, row, case):
     if number is None:
         return listed[2]
     return listed[1][number][0]
+
+
+def have_common(numbers, others):
+    """True if some number stands in both tuples."""
+    return any([number in others for number in numbers])
+
+
+def fitting_cases(listed, chosen, avoided):
+    """The cases that all chosen rules match, and no avoided one, ascending."""
+    found = []
+    for case in all_cases(listed[0]):
+        matching = matching_set(listed[1], case)
+        if all([number in matching for number in chosen]) and not have_common(avoided, matching):
+            found.append(case)
+    return found

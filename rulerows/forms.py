@@ -29,14 +29,14 @@ def is_action(value):
 
 
 def is_widths(value):
-    return is_tuple(value, 1, 3) and all(is_integer(width, 1, 8) for width in value)
+    return is_tuple(value, 1, 3) and all([is_integer(width, 1, 8) for width in value])
 
 
 def is_case(widths, value):
     """True if the value is a case of these widths."""
     if not is_tuple(value, len(widths), len(widths)):
         return False
-    return all(is_integer(item, 0, width - 1) for item, width in zip(value, widths))
+    return all([is_integer(item, 0, width - 1) for item, width in zip(value, widths)])
 
 
 def is_range(width, value):
@@ -54,7 +54,7 @@ def is_rule(widths, value):
     action, ranges = value
     if not is_action(action) or not is_tuple(ranges, len(widths), len(widths)):
         return False
-    return all(is_range(width, item) for item, width in zip(ranges, widths))
+    return all([is_range(width, item) for item, width in zip(ranges, widths)])
 
 
 def is_listed(value):
@@ -64,7 +64,7 @@ def is_listed(value):
     widths, rules, rest = value
     if not is_widths(widths) or not is_tuple(rules, 0, 7):
         return False
-    return all(is_rule(widths, rule) for rule in rules) and is_action(rest)
+    return all([is_rule(widths, rule) for rule in rules]) and is_action(rest)
 
 
 def is_number(listed, value):
@@ -76,8 +76,41 @@ def is_numbers(listed, value):
     """True if the value is a tuple of different numbers of rules of the list."""
     if not is_tuple(value, 0, len(listed[1])):
         return False
-    return all(is_number(listed, item) for item in value) and len(set(value)) == len(value)
+    return all([is_number(listed, item) for item in value]) and len(set(value)) == len(value)
 
 
 def is_row(listed, value):
     return is_numbers(listed, value) and len(value) == len(listed[1])
+
+
+def is_set(listed, value):
+    """True if the value is a set of rules of the list."""
+    return is_numbers(listed, value) and list(value) == sorted(value)
+
+
+def is_pair(widths, value):
+    """True if the value is a pair of a case and an action."""
+    if not is_tuple(value, 2, 2):
+        return False
+    case, action = value
+    return is_case(widths, case) and is_action(action)
+
+
+def is_pairs(widths, value):
+    """True if the value is a tuple of pairs by which actions can be wanted."""
+    if not is_tuple(value, 0, 12) or not all([is_pair(widths, item) for item in value]):
+        return False
+    cases = [case for case, _ in value]
+    return cases == sorted(set(cases))
+
+
+def is_goal(listed, value):
+    """True if the value is something wanted of the list."""
+    if is_tuple(value, 1, 1):
+        return value[0] == "self"
+    if not is_tuple(value, 2, 2):
+        return False
+    word, told = value
+    if word == "list":
+        return is_listed(told) and told[0] == listed[0]
+    return word == "cases" and is_pairs(listed[0], told)

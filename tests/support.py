@@ -214,3 +214,137 @@ WIDEST = (
     ((1, ((0, 7), (0, 3), (2, 5))), (2, ((4, 7), (0, 7), (0, 7))), (1, ((7, 7), (7, 7), (7, 7)))),
     0,
 )
+
+
+# All of these are wrong for LISTED where a set of its rules is asked for.
+NOT_SETS = (
+    (1, 0), (2, 1), (0, 2, 1), (2, 1, 0), (0, 0), (0, 1, 1), (0, 0, 1), (3,), (-1,), (0, 3), (-1, 0), (0, 1, 2, 3),
+    (0, 1, 2, 2), [], [0], [0, 1], None, True, False, 0, 1, "", "0", "01", (True,), (False,), (0, True), (False, 1),
+    (None,), ("0",), ((0,),), ((),), (0, None), (0, "1"), (0, (1,)), ([0],), (0, 10 ** 30),
+)
+NOT_BEGINNINGS = (
+    (0, 0), (1, 0, 1), (2, 2, 2), (0, 1, 2, 0), (3,), (-1,), (2, 3), (0, -1), [], [0], [0, 1, 2], None, True, False, 0,
+    1, "", "0", (True,), (False,), (0, True), (True, 0), (None,), ("0",), ((0,),), ((),), (1, None), ([0],), (0, 1, 2, 3),
+)
+SEVEN = tuple([((number // 3, number % 3), number % 6) for number in range(7)])
+TWELVE = tuple([((number // 3, number % 3), number % 6) for number in range(12)])
+WIDE = ((8, 8), (), 0)
+WIDE_TWELVE = tuple([((1, number), 1) for number in range(8)]) + tuple([((2, number), 1) for number in range(4)])
+WIDE_THIRTEEN = WIDE_TWELVE + (((2, 4), 1),)
+
+
+def one_pair(pair):
+    """Pairs with this one in the middle."""
+    return ("cases", (((0, 0), 1), pair, ((3, 2), 1)))
+
+
+NOT_WANTED = tuple([value for value in ODD_VALUES if value != ("self",)]) + (
+    ("self", None), ("self", ()), ("self", LISTED), ("Self",), ("",), "self", "list", "cases", ["self"], (("self",),),
+    ("list",), ("cases",), ("list", LISTED, 0), ("cases", (), ()), ["list", LISTED], ["cases", ()], ("other", ()),
+    ("other", LISTED), (None, ()), (0, LISTED), ((), ()), (LISTED, "list"), LISTED, ((), "cases"), ("case", ()),
+    ("list", ()), ("list", None), ("list", list(LISTED)), ("list", ("self",)), ("list", ((4, 3), (RULE,), 6)),
+    ("list", ((4, 3), (RULE,), False)), ("list", ((4, 3), (RULE,) * 8, 0)), ("list", with_rule((6, RULE[1]))),
+    ("list", ((4,), (), 0)), ("list", ((3, 4), (), 0)), ("list", ((4, 3, 1), (), 0)), ("list", ((4, 4), (), 0)),
+    ("list", ((4, 2), (), 0)), ("list", ("list", LISTED)), ("cases", LISTED), ("self", ("self",)),
+    ("cases", []), ("cases", None), ("cases", 0), ("cases", ""), ("cases", True), ("cases", list(SEVEN)),
+    ("cases", ((0, 0), 1)), ("cases", ((0, 0),)), ("cases", (0,)), ("cases", ((),)), ("cases", (None,)),
+    one_pair(None), one_pair(()), one_pair(((1, 1),)), one_pair(((1, 1), 1, 1)), one_pair([(1, 1), 1]), one_pair((1, (1, 1))),
+    one_pair(((1, 1), 6)), one_pair(((1, 1), -1)), one_pair(((1, 1), True)), one_pair(((1, 1), False)),
+    one_pair(((1, 1), None)), one_pair(((1, 1), "1")), one_pair(((1, 1), (1,))), one_pair("ab"),
+    # Twice the same case, and cases that do not ascend.
+    one_pair(((0, 0), 1)), one_pair(((0, 0), 2)), one_pair(((3, 2), 0)), ("cases", (((1, 1), 2), ((1, 1), 1))),
+    ("cases", (((1, 0), 1), ((0, 2), 2))), ("cases", (((1, 2), 1), ((1, 1), 2))), ("cases", SEVEN[::-1]),
+    ("cases", SEVEN[1:] + SEVEN[:1]), ("cases", SEVEN + SEVEN[-1:]), ("cases", TWELVE + TWELVE[-1:]),
+) + tuple([one_pair((case, 1)) for case in NOT_CASES if case != (3, 3)])
+SOME_WANTED = (("self",), ("list", ((4, 3), (RULE,), 2)), ("cases", TWELVE), ("cases", ()))
+
+
+def fitting(listed, chosen, avoided):
+    found = []
+    for case in all_cases(listed[0]):
+        standing = matching(listed, case)
+        if set(chosen) <= set(standing) and not set(avoided) & set(standing):
+            found.append(case)
+    return found
+
+
+def wanted_actions(listed, wanted):
+    """The wanted actions by their cases, ascending."""
+    if wanted[0] == "cases":
+        return dict(wanted[1])
+    told = listed if wanted[0] == "self" else wanted[1]
+    return {case: deciding(told, ascending(told), case)[1] for case in all_cases(told[0])}
+
+
+def wrong_cases(listed, wanted, row):
+    told = wanted_actions(listed, wanted)
+    return [case for case, action in told.items() if deciding(listed, row, case)[1] != action]
+
+
+def unmet_cases(listed, wanted):
+    told = wanted_actions(listed, wanted)
+    return [case for case, action in told.items() if matching(listed, case) == () and action != listed[2]]
+
+
+def right_rows(listed, wanted):
+    """All right rows, in ascending order, found by looking at each wanted case in each row."""
+    told = [(matching(listed, case), action) for case, action in wanted_actions(listed, wanted).items()]
+    found = []
+    for row in all_rows(listed):
+        for standing, action in dict.fromkeys(told):
+            first = [number for number in row if number in standing][:1]
+            if (listed[1][first[0]][0] if first else listed[2]) != action:
+                break
+        else:
+            found.append(row)
+    return found
+
+
+def ready_after(listed, wanted, chosen):
+    """The ready rules, case by case as point 39 says it."""
+    found = []
+    for number, (action, _) in enumerate(listed[1]):
+        if number not in chosen:
+            stopped = False
+            for case, wanted_one in wanted_actions(listed, wanted).items():
+                standing = matching(listed, case)
+                if number in standing and not set(standing) & set(chosen) and wanted_one != action:
+                    stopped = True
+            if not stopped:
+                found.append(number)
+    return tuple(found)
+
+
+def random_wanted(rng, listed, kind):
+    widths = listed[0]
+    cases = all_cases(widths)
+    if kind == "self":
+        return ("self",)
+    if kind == "row":
+        # The decisions of another sequence of the rules, so that there is a right row.
+        rules = list(listed[1])
+        rng.shuffle(rules)
+        return ("list", (widths, tuple(rules), listed[2]))
+    if kind == "list":
+        rules = tuple([random_rule(rng, widths, 3) for _ in range(rng.randint(0, 7))])
+        return ("list", (widths, rules, rng.choice((listed[2], listed[2], rng.randrange(6)))))
+    chosen = sorted(rng.sample(cases, min(len(cases), rng.randint(0, 12))))
+    if kind == "some":
+        row = list(ascending(listed))
+        rng.shuffle(row)
+        return ("cases", tuple([(case, deciding(listed, row, case)[1]) for case in chosen]))
+    chosen = chosen[:3]
+    return ("cases", tuple([(case, rng.choice([action for action, _ in listed[1]] + [listed[2]])) for case in chosen]))
+
+
+WANTED_KINDS = ("self", "row", "list", "some", "any")
+
+
+def some_wanted(seed, many, most_rules=4, most_cases=32):
+    """Pairs of a list and something wanted of it, of all kinds."""
+    rng = random.Random(seed)
+    found = []
+    for number in range(many):
+        listed = random_list(rng, most_rules, most_cases)
+        found.append((listed, random_wanted(rng, listed, WANTED_KINDS[number % len(WANTED_KINDS)])))
+    return found
