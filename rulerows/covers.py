@@ -1,6 +1,6 @@
 """Which sets of rules cover a rule, and the evidence for either answer."""
 
-from rulerows.deciding import fitting_cases
+from rulerows.deciding import fitting_cases, have_common, matching_set
 from rulerows.forms import is_case, is_integer, is_listed, is_number, is_set, is_tuple, need
 
 
@@ -25,7 +25,10 @@ def shows_uncovered(listed, chosen, number, value):
     need(is_listed(listed), "listed")
     need(is_set(listed, chosen), "chosen")
     need(is_number(listed, number), "number")
-    return is_case(listed[0], value) and value in fitting_cases(listed, (number,), chosen)
+    if not is_case(listed[0], value):
+        return False
+    matching = matching_set(listed[1], value)
+    return number in matching and not have_common(chosen, matching)
 
 
 def cover_tree(listed, chosen, number):
