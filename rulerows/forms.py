@@ -72,6 +72,26 @@ def is_number(listed, value):
     return is_integer(value, 0, len(listed[1]) - 1)
 
 
+def is_other_number(listed, number, value):
+    """True if the value is the number of another rule than this one."""
+    return is_number(listed, value) and value != number
+
+
+def is_place(listed, value):
+    """True if the value is an index of a row of the list."""
+    return is_integer(value, 0, len(listed[1]) - 1)
+
+
+def is_position(listed, value):
+    """True if the value is a position of a row at which a swap can be made."""
+    return is_integer(value, 0, len(listed[1]) - 2)
+
+
+def is_positions(listed, value, fewest, most):
+    """True if the value is a tuple of so many positions at which swaps can be made."""
+    return is_tuple(value, fewest, most) and all([is_position(listed, item) for item in value])
+
+
 def is_numbers(listed, value):
     """True if the value is a tuple of different numbers of rules of the list."""
     if not is_tuple(value, 0, len(listed[1])):

@@ -18,6 +18,18 @@ def wanted_pairs(listed, wanted):
     return list(wanted[1])
 
 
+def wanted_of(listed, wanted, case):
+    """The action that is wanted of the case, or None if it is not a wanted case."""
+    if wanted[0] == "self":
+        return action_for(listed, ascending_row(listed), case)
+    if wanted[0] == "list":
+        return action_for(wanted[1], ascending_row(wanted[1]), case)
+    for other, action in wanted[1]:
+        if other == case:
+            return action
+    return None
+
+
 def goal_regions(listed, wanted):
     """The regions of what is wanted, in the order of their first cases."""
     first_cases = {}
@@ -31,5 +43,13 @@ def unmet_case(listed, regions):
     """The first case that no rule matches, and that is not to be decided by the rest, or None."""
     for case, matching, action in regions:
         if matching == () and action != listed[2]:
+            return case
+    return None
+
+
+def wrong_case(listed, regions, row):
+    """The first case that is wrong for the row, or None if the row is right."""
+    for case, _, action in regions:
+        if action_for(listed, row, case) != action:
             return case
     return None

@@ -30,6 +30,12 @@ def place_rules(listed, regions, begun, allowed):
     return row
 
 
+def place_others(listed, regions, number):
+    """What is placed without the rule, in the sequence in which it is placed."""
+    allowed = [other for other in ascending_row(listed) if other != number]
+    return place_rules(listed, regions, (), allowed)
+
+
 def come_in_turn(listed, regions, rules):
     """True if each of the rules is ready after those before it."""
     return all([rules[place] in ready_rules(listed, regions, rules[:place]) for place in range(len(rules))])

@@ -1,9 +1,8 @@
 """Rules that can stand next, sets that can come first, and the first right rows."""
 
-from rulerows.deciding import ascending_row
 from rulerows.forms import is_goal, is_listed, is_number, is_numbers, is_set, need
 from rulerows.goals import goal_regions
-from rulerows.placing import come_in_turn, complete_row, place_rules, ready_rules
+from rulerows.placing import come_in_turn, complete_row, place_others, place_rules, ready_rules
 
 
 def ready(listed, wanted, chosen):
@@ -45,5 +44,4 @@ def placed_without(listed, wanted, number):
     need(is_listed(listed), "listed")
     need(is_goal(listed, wanted), "wanted")
     need(is_number(listed, number), "number")
-    allowed = [other for other in ascending_row(listed) if other != number]
-    return tuple(sorted(place_rules(listed, goal_regions(listed, wanted), (), allowed)))
+    return tuple(sorted(place_others(listed, goal_regions(listed, wanted), number)))

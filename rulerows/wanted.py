@@ -2,7 +2,7 @@
 
 from rulerows.deciding import action_for
 from rulerows.forms import is_case, is_goal, is_listed, is_row, need
-from rulerows.goals import goal_regions, unmet_case, wanted_pairs
+from rulerows.goals import goal_regions, unmet_case, wanted_of, wanted_pairs
 from rulerows.placing import complete_row, ready_rules
 
 
@@ -17,10 +17,7 @@ def wanted_action(listed, wanted, case):
     need(is_listed(listed), "listed")
     need(is_goal(listed, wanted), "wanted")
     need(is_case(listed[0], case), "case")
-    for other, action in wanted_pairs(listed, wanted):
-        if other == case:
-            return action
-    return None
+    return wanted_of(listed, wanted, case)
 
 
 def first_unmet(listed, wanted):

@@ -5,7 +5,7 @@ import itertools
 import random
 import unittest
 
-from rulerows.errors import BadValue, RowError
+from rulerows.errors import BadValue, NotPossible, RowError
 
 
 def kinds(value):
@@ -30,6 +30,25 @@ class RowsTest(unittest.TestCase):
             self.assertEqual(kinds(error.name), kinds(name), (function.__name__, arguments))
         else:
             self.fail(f"{function.__name__}{short(arguments)} returned {short(got)}, not BadValue({name!r})")
+
+    def not_possible(self, why, function, *arguments):
+        """The call raises NotPossible with this word, and no other class of ours."""
+        try:
+            got = function(*arguments)
+        except RowError as error:
+            self.assertIs(type(error), NotPossible, (function.__name__, arguments))
+            self.assertEqual(kinds(error.why), kinds(why), (function.__name__, arguments))
+        else:
+            self.fail(f"{function.__name__}{short(arguments)} returned {short(got)}, not NotPossible({why!r})")
+
+    def check_new_list(self, function, *arguments):
+        """The function returns a new list each time."""
+        first = function(*arguments)
+        self.assertIs(type(first), list)
+        kept = list(first)
+        first.append("changed")
+        self.same(function(*arguments), kept)
+        self.assertIsNot(function(*arguments), function(*arguments))
 
     def check_arguments(self, function, *parameters):
         """Each parameter is told by its name, a good value and all wrong ones.
@@ -348,3 +367,101 @@ def some_wanted(seed, many, most_rules=4, most_cases=32):
         listed = random_list(rng, most_rules, most_cases)
         found.append((listed, random_wanted(rng, listed, WANTED_KINDS[number % len(WANTED_KINDS)])))
     return found
+
+
+# All of these are wrong for LISTED where a position of a swap, or a tuple of these, is asked for.
+NOT_POSITIONS = (2, 3, -1, 7, 10 ** 30, True, False, None, "0", "", (), (0,), [0], [])
+NOT_WALKS = (
+    (2,), (3,), (-1,), (0, 2), (2, 0), (0, -1), (True,), (False,), (0, True), (False, 1), (None,), (0, None), ("0",),
+    ("0", "1"), ((0,),), ((),), ([0],), (0, (1,)), [], [0], [0, 1], None, True, False, 0, 1, "", "0", "01",
+    (0,) * 61, (0, 1) * 31, (1,) * 62, (0,) * 60 + (2,), (2,) + (0,) * 60, (0,) * 1000, ((0,) * 60,), (10 ** 30,),
+)
+TWO = ((4,), ((1, ((0, 2),)), (2, ((1, 3),))), 0)
+# The list of point 61.
+SOME = ((8,), ((1, ((0, 3),)), (1, ((2, 6),)), (2, ((2, 3),))), 0)
+NO_RULES = ((4,), (), 0)
+ONE_RULE = ((4,), ((1, ((0, 1),)),), 0)
+# Seven rules of which all rows are right, and seven of which only one is.
+SEVEN_FREE = ((8,), tuple([(number % 3, ((number, number),)) for number in range(7)]), 0)
+SEVEN_CHAINED = ((8,), tuple([(number % 2, ((number, number + 1),)) for number in range(7)]), 2)
+
+
+def goals_with_rows(seed, many, most_rules=4, most_cases=32):
+    """Triples of a list, something wanted of it, and its right rows, at least one."""
+    found = []
+    for listed, wanted in some_wanted(seed, many, most_rules, most_cases):
+        rows = right_rows(listed, wanted)
+        if rows:
+            found.append((listed, wanted, rows))
+    return found
+
+
+def crowded_goals(seed, many):
+    """Triples as above, of lists in which each case is matched by several of the rules."""
+    rng = random.Random(seed)
+    found = []
+    while len(found) < many:
+        widths = (rng.choice((4, 6, 8)),)
+        listed = (widths, tuple([random_rule(rng, widths, 2) for _ in range(5)]), 0)
+        wanted = random_wanted(rng, listed, "some")
+        rows = right_rows(listed, wanted)
+        if rows:
+            found.append((listed, wanted, rows))
+    return found
+
+
+def goals_without_rows(seed, many, most_rules=4, most_cases=32):
+    """Pairs of a list and something wanted of it for which no row is right."""
+    return [pair for pair in some_wanted(seed, many, most_rules, most_cases) if not right_rows(*pair)]
+
+
+def apart(row, other):
+    """The distance of two rows, as point 52 says it."""
+    found = 0
+    for one, another in itertools.combinations(sorted(row), 2):
+        in_row = row.index(one) < row.index(another)
+        in_other = other.index(one) < other.index(another)
+        found += in_row != in_other
+    return found
+
+
+def exchange(row, position):
+    changed = list(row)
+    changed[position], changed[position + 1] = changed[position + 1], changed[position]
+    return tuple(changed)
+
+
+def coming_first(listed, wanted):
+    """All sets that can come first, those with fewer rules first, found by placing each ready rule."""
+    found = {()}
+    for _ in listed[1]:
+        for chosen in list(found):
+            for number in ready_after(listed, wanted, chosen):
+                found.add(tuple(sorted((*chosen, number))))
+    return sorted(found, key=lambda chosen: (len(chosen), chosen))
+
+
+def changed_values(rng, value, many):
+    """Values that differ from this one in one place: another item, one more, one less, another kind."""
+    found = []
+    for _ in range(many):
+        found.append(changed_value(rng, value))
+    return found
+
+
+def changed_value(rng, value):
+    if isinstance(value, tuple) and value and rng.random() < 0.8:
+        at = rng.randrange(len(value))
+        way = rng.randrange(8)
+        if way == 0:
+            return value[:at] + value[at + 1:]
+        if way == 1:
+            return value[:at] + (value[at],) + value[at:]
+        if way == 2:
+            return value[::-1]
+        return value[:at] + (changed_value(rng, value[at]),) + value[at + 1:]
+    if isinstance(value, tuple):
+        return rng.choice((list(value), (*value, 0), (value,), None))
+    if isinstance(value, bool) or not isinstance(value, int):
+        return rng.choice((None, "", 0, "row", "loose", "blocked", "always", "not"))
+    return rng.choice((value + 1, value - 1, value + 2, bool(value % 2), str(value), None, (value,), rng.randrange(8)))
