@@ -124,6 +124,19 @@ def is_pairs(widths, value):
     return cases == sorted(set(cases))
 
 
+def is_weight(widths, value):
+    """True if the value is a pair of a case and a weight."""
+    if not is_tuple(value, 2, 2):
+        return False
+    case, weight = value
+    return is_case(widths, case) and is_integer(weight, 0, 1000)
+
+
+def is_weights(listed, value):
+    """True if the value is a tuple of pairs by which rows of the list cost something."""
+    return is_tuple(value, 0, 12) and all([is_weight(listed[0], item) for item in value])
+
+
 def is_goal(listed, value):
     """True if the value is something wanted of the list."""
     if is_tuple(value, 1, 1):

@@ -5,6 +5,7 @@ alone, not on the sequence in which its rules were placed.
 """
 
 from rulerows.deciding import ascending_row
+from rulerows.goals import unmet_case
 from rulerows.placing import ready_rules
 
 
@@ -37,6 +38,25 @@ def with_rule_at(table, number, place):
     for chosen, able in table.items():
         steps[chosen] = [other for other in able if (other == number) == (len(chosen) == place)]
     return steps
+
+
+def with_rule_before(table, number, other):
+    """The table without the steps of ways on which the other rule comes ahead of the rule."""
+    steps = {}
+    for chosen, able in table.items():
+        steps[chosen] = [placed for placed in able if placed != other or number in chosen]
+    return steps
+
+
+def count_ways(listed, regions, table):
+    """The number of ways to go on from each set of the table to all rules, so that a right row comes."""
+    whole = ascending_row(listed)
+    # With a loose case, no row is right, whatever the ways.
+    ways = {whole: 1 if unmet_case(listed, regions) is None else 0}
+    for chosen, able in reversed(list(table.items())):
+        if chosen != whole:
+            ways[chosen] = sum([ways[joined(chosen, number)] for number in able])
+    return ways
 
 
 def cheapest_way(listed, priced):

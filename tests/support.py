@@ -379,6 +379,12 @@ NOT_WALKS = (
 TWO = ((4,), ((1, ((0, 2),)), (2, ((1, 3),))), 0)
 # The list of point 61.
 SOME = ((8,), ((1, ((0, 3),)), (1, ((2, 6),)), (2, ((2, 3),))), 0)
+# The list of point 82, and the one case that is wanted there.
+THREE = ((8,), ((1, ((0, 3),)), (2, ((2, 5),)), (1, ((5, 7),))), 0)
+ONLY_TWO = ("cases", (((2,), 1),))
+# All rules can be placed, but one wanted case is loose.
+LOOSE_LIST = ((4,), ((1, ((0, 1),)), (2, ((1, 2),))), 0)
+LOOSE = ("cases", (((0,), 1), ((3,), 5)))
 NO_RULES = ((4,), (), 0)
 ONE_RULE = ((4,), ((1, ((0, 1),)),), 0)
 # Seven rules of which all rows are right, and seven of which only one is.
@@ -465,3 +471,40 @@ def changed_value(rng, value):
     if isinstance(value, bool) or not isinstance(value, int):
         return rng.choice((None, "", 0, "row", "loose", "blocked", "always", "not"))
     return rng.choice((value + 1, value - 1, value + 2, bool(value % 2), str(value), None, (value,), rng.randrange(8)))
+
+
+# All of these are wrong for LISTED where weights are asked for.
+WEIGHTS = (((3, 2), 1000), ((0, 1), 0), ((0, 1), 7))
+NOT_WEIGHTS = tuple([value for value in ODD_VALUES if value != ()]) + (
+    list(WEIGHTS), [], ((0, 1), 7), (((0, 1),),), (((0, 1), 7, 7),), ([(0, 1), 7],), ((7, (0, 1)),), ("ab",), (7,), (None,),
+    (((0, 1), 1001),), (((0, 1), 1002),), (((0, 1), -1),), (((0, 1), True),), (((0, 1), False),), (((0, 1), None),),
+    (((0, 1), "7"),), (((0, 1), (7,)),), (((0, 1), 10 ** 30),), (((0, 1), 7),) * 13, (((0, 1), 7),) * 14,
+    WEIGHTS + (((4, 0), 1),), (((0, 3), 1),) + WEIGHTS, WEIGHTS + (((0, 1), 1001),), (((0, 1), 1001),) + WEIGHTS,
+    WEIGHTS + (None,), WEIGHTS + ([(0, 1), 7],), WEIGHTS[:1] + (((0, True), 1),) + WEIGHTS[1:],
+    (((0, 1), 7),) * 11 + (((0, 1), -1),),
+) + tuple([((case, 1),) for case in NOT_CASES if case != (3, 3)]) + tuple([((case, 0),) for case in ((4, 0), (0, 3))])
+# All of these are wrong for LISTED where indexes, or numbers of rows, are asked for.
+NOT_INDEXES = (-1, -2, 10 ** 30, True, False, None, "0", "", (), (0,), [0], [])
+
+
+def compared(listed, row, case):
+    """How many rules of the row are compared with the case."""
+    many = 0
+    for number in row:
+        many += 1
+        if number in matching(listed, case):
+            break
+    return many
+
+
+def costing(listed, weights, row):
+    """The cost of the row by the words of point 83."""
+    return sum(weight * compared(listed, row, case) for case, weight in weights)
+
+
+def random_weights(rng, listed, many=None):
+    cases = all_cases(listed[0])
+    if many is None:
+        many = rng.randint(0, 12)
+    small = rng.random() < 0.5
+    return tuple([(rng.choice(cases), rng.randint(0, 3) if small else rng.choice((0, 1, 999, 1000))) for _ in range(many)])

@@ -7,8 +7,8 @@ from rulerows import before as before_file
 from rulerows.before import always_before, between, choice, ends, needed_sets, places, relation
 from rulerows.ready import placed_without
 from tests.support import (
-    EDGE_LISTS, LISTED, NO_RULES, NOT_LISTS, NOT_NUMBERS, NOT_WANTED, ONE_RULE, SEVEN_CHAINED, SEVEN_FREE, SOME,
-    SOME_WANTED, TWO, WIDE_THIRTEEN, WIDE_TWELVE, WIDEST, RowsTest,
+    EDGE_LISTS, LISTED, LOOSE, LOOSE_LIST, NOT_LISTS, NOT_NUMBERS, NOT_WANTED, NO_RULES, ONE_RULE, SEVEN_CHAINED,
+    SEVEN_FREE, SOME, SOME_WANTED, TWO, WIDEST, WIDE_THIRTEEN, WIDE_TWELVE, RowsTest,
     all_rows, ascending, coming_first, crowded_goals, goals_with_rows, goals_without_rows, ready_after, right_rows,
 )
 
@@ -280,13 +280,12 @@ class ErrorsTest(RowsTest):
         self.assertGreater(tried, 100)
 
     def test_a_loose_case_alone(self):
-        listed, wanted = ((4,), ((1, ((0, 1),)), (2, ((1, 2),))), 0), ("cases", (((0,), 1), ((3,), 5)))
         for function in (always_before, choice, ends):
-            self.not_possible("none", function, listed, wanted)
+            self.not_possible("none", function, LOOSE_LIST, LOOSE)
         for function in (places, needed_sets):
-            self.not_possible("none", function, listed, wanted, 0)
+            self.not_possible("none", function, LOOSE_LIST, LOOSE, 0)
         for function in (relation, between):
-            self.not_possible("none", function, listed, wanted, 0, 1)
+            self.not_possible("none", function, LOOSE_LIST, LOOSE, 0, 1)
 
     def test_wrong_arguments(self):
         # For the last of these no row is right: wrong arguments are told ahead of that.

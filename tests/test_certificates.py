@@ -8,8 +8,8 @@ from rulerows import certificates as certificates_file
 from rulerows.certificates import accepts, certificate
 from rulerows.ready import first_row
 from tests.support import (
-    EDGE_LISTS, LISTED, NO_RULES, NOT_LISTS, NOT_ROWS, NOT_WANTED, ODD_VALUES, ONE_RULE, SEVEN_CHAINED, SEVEN_FREE,
-    SOME_WANTED, TWO, WIDE_THIRTEEN, WIDE_TWELVE, WIDEST, RowsTest,
+    EDGE_LISTS, LISTED, NOT_LISTS, NOT_ROWS, NOT_WANTED, NO_RULES, ODD_VALUES, ONE_RULE, SEVEN_FREE, SOME_WANTED,
+    TWO, WIDEST, WIDE_THIRTEEN, WIDE_TWELVE, RowsTest,
     all_cases, all_rows, ascending, changed_values, deep, kinds, matching, ready_after, right_rows, some_wanted,
     unmet_cases, wanted_actions,
 )

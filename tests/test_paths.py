@@ -8,8 +8,8 @@ from rulerows import paths as paths_file
 from rulerows.paths import accepts_only, accepts_path, is_only, only_evidence, path
 from rulerows.swaps import applied, distance, safe_swaps
 from tests.support import (
-    EDGE_LISTS, LISTED, NO_RULES, NOT_CASES, NOT_LISTS, NOT_ROWS, NOT_WALKS, NOT_WANTED, ODD_VALUES, ONE_RULE,
-    SEVEN_CHAINED, SEVEN_FREE, SOME, SOME_WANTED, TWO, WIDE_THIRTEEN, WIDE_TWELVE, WIDEST, RowsTest,
+    EDGE_LISTS, LISTED, NOT_CASES, NOT_LISTS, NOT_ROWS, NOT_WALKS, NOT_WANTED, NO_RULES, ODD_VALUES, ONE_RULE,
+    SEVEN_CHAINED, SEVEN_FREE, SOME, SOME_WANTED, TWO, WIDEST, WIDE_THIRTEEN, WIDE_TWELVE, RowsTest,
     all_cases, all_rows, apart, ascending, changed_values, crowded_goals, deep, exchange, goals_with_rows, kinds,
     matching, right_rows, some_wanted, wanted_actions,
 )

@@ -8,10 +8,10 @@ from rulerows import swaps as swaps_file
 from rulerows.swaps import applied, distance, nearest, safe_swaps, shown_by
 from rulerows.wanted import first_wrong, is_right
 from tests.support import (
-    EDGE_LISTS, LISTED, NO_RULES, NOT_LISTS, NOT_NUMBERS, NOT_POSITIONS, NOT_ROWS, NOT_WALKS, NOT_WANTED, ONE_RULE,
-    SEVEN_CHAINED, SEVEN_FREE, SOME, SOME_WANTED, TWO, WIDE_THIRTEEN, WIDE_TWELVE, WIDEST, RowsTest,
-    all_rows, apart, ascending, crowded_goals, exchange, goals_with_rows, goals_without_rows, matching, right_rows, some_lists,
-    some_wanted, wanted_actions, wrong_cases,
+    EDGE_LISTS, LISTED, NOT_LISTS, NOT_NUMBERS, NOT_POSITIONS, NOT_ROWS, NOT_WALKS, NOT_WANTED, NO_RULES, ONE_RULE,
+    SEVEN_CHAINED, SEVEN_FREE, SOME, SOME_WANTED, TWO, WIDEST, WIDE_THIRTEEN, WIDE_TWELVE, RowsTest,
+    all_rows, apart, ascending, crowded_goals, exchange, goals_with_rows, goals_without_rows, matching, right_rows,
+    some_lists, some_wanted, wanted_actions, wrong_cases,
 )
 
 ANY = ("cases", ())
