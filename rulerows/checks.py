@@ -1,7 +1,7 @@
 """What several functions ask of their arguments before they do anything else."""
 
 from rulerows.errors import NotPossible
-from rulerows.forms import is_goal, is_listed, is_number, is_other_number, is_row, need
+from rulerows.forms import is_goal, is_listed, is_number, is_other_number, is_row, is_weights, need
 from rulerows.goals import goal_regions, wrong_case
 from rulerows.placing import complete_row
 
@@ -29,6 +29,21 @@ def need_goal_and_two(listed, wanted, first, second):
     need_goal(listed, wanted)
     need(is_number(listed, first), "first")
     need(is_other_number(listed, first, second), "second")
+
+
+def need_goal_and_weights(listed, wanted, weights):
+    """Raise BadValue unless it is a list, with something wanted of it, and weights for it."""
+    need_goal(listed, wanted)
+    need(is_weights(listed, weights), "weights")
+
+
+def regions_of_priced(listed, wanted, weights, row):
+    """The regions of what is wanted; raise BadValue unless there are weights, and the row is right."""
+    need_goal_and_weights(listed, wanted, weights)
+    need(is_row(listed, row), "row")
+    regions = goal_regions(listed, wanted)
+    need(wrong_case(listed, regions, row) is None, "row")
+    return regions
 
 
 def regions_of_right(listed, wanted, rows):

@@ -1,6 +1,6 @@
 """What rows cost, and the cheapest right row."""
 
-from rulerows.checks import need_goal
+from rulerows.checks import need_goal_and_weights
 from rulerows.deciding import first_match
 from rulerows.forms import is_listed, is_row, is_weights, need
 from rulerows.goals import goal_regions, unmet_case
@@ -47,8 +47,7 @@ def least_cost(listed, wanted, weights):
 
 def best_way(listed, wanted, weights):
     """The least cost of a right row, and the first row that has it, or None."""
-    need_goal(listed, wanted)
-    need(is_weights(listed, weights), "weights")
+    need_goal_and_weights(listed, wanted, weights)
     regions = goal_regions(listed, wanted)
     if unmet_case(listed, regions) is not None:
         return None

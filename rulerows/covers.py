@@ -1,6 +1,6 @@
 """Which sets of rules cover a rule, and the evidence for either answer."""
 
-from rulerows.deciding import fitting_cases, have_common, matching_set
+from rulerows.deciding import first_fitting, have_common, matching_set
 from rulerows.forms import is_case, is_integer, is_listed, is_number, is_set, is_tuple, need
 
 
@@ -14,10 +14,7 @@ def first_shown(listed, chosen, number):
     need(is_listed(listed), "listed")
     need(is_set(listed, chosen), "chosen")
     need(is_number(listed, number), "number")
-    shown = fitting_cases(listed, (number,), chosen)
-    if not shown:
-        return None
-    return shown[0]
+    return first_fitting(listed, (number,), chosen)
 
 
 def shows_uncovered(listed, chosen, number, value):

@@ -51,3 +51,11 @@ def fitting_cases(listed, chosen, avoided):
         if all([number in matching for number in chosen]) and not have_common(avoided, matching):
             found.append(case)
     return found
+
+
+def first_fitting(listed, chosen, avoided):
+    """The first of the fitting cases, or None if there is none."""
+    fitting = fitting_cases(listed, chosen, avoided)
+    if not fitting:
+        return None
+    return fitting[0]

@@ -13,10 +13,15 @@ def need(holds, name):
         raise BadValue(name)
 
 
+def is_whole(value):
+    """True if the value is an integer, of whatever size."""
+    # To Python, True and False are integers, too.
+    return isinstance(value, int) and not isinstance(value, bool)
+
+
 def is_integer(value, low, high):
     """True if the value is an integer from low to high."""
-    # To Python, True and False are integers, too.
-    return isinstance(value, int) and not isinstance(value, bool) and low <= value <= high
+    return is_whole(value) and low <= value <= high
 
 
 def is_tuple(value, fewest, most):
@@ -108,6 +113,11 @@ def is_set(listed, value):
     return is_numbers(listed, value) and list(value) == sorted(value)
 
 
+def is_set_ahead(listed, number, value):
+    """True if the value is a set of rules with lower numbers than this one."""
+    return is_set(listed, value) and all([other < number for other in value])
+
+
 def is_pair(widths, value):
     """True if the value is a pair of a case and an action."""
     if not is_tuple(value, 2, 2):
@@ -147,3 +157,8 @@ def is_goal(listed, value):
     if word == "list":
         return is_listed(told) and told[0] == listed[0]
     return word == "cases" and is_pairs(listed[0], told)
+
+
+def is_text(value):
+    """True if the value is a string that can be scanned."""
+    return isinstance(value, str) and len(value) <= 400 and "\n" not in value

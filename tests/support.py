@@ -5,7 +5,7 @@ import itertools
 import random
 import unittest
 
-from rulerows.errors import BadValue, NotPossible, RowError
+from rulerows.errors import BadValue, NotPossible, RowError, TextError
 
 
 def kinds(value):
@@ -40,6 +40,17 @@ class RowsTest(unittest.TestCase):
             self.assertEqual(kinds(error.why), kinds(why), (function.__name__, arguments))
         else:
             self.fail(f"{function.__name__}{short(arguments)} returned {short(got)}, not NotPossible({why!r})")
+
+    def problem(self, column, words, function, *arguments):
+        """The call raises TextError with this column and these words, and no other class of ours."""
+        try:
+            got = function(*arguments)
+        except RowError as error:
+            self.assertIs(type(error), TextError, (function.__name__, arguments))
+            told = (error.column, error.words)
+            self.assertEqual(kinds(told), kinds((column, words)), (function.__name__, arguments))
+        else:
+            self.fail(f"{function.__name__}{short(arguments)} returned {short(got)}, no TextError at {column}")
 
     def check_new_list(self, function, *arguments):
         """The function returns a new list each time."""
@@ -508,3 +519,11 @@ def random_weights(rng, listed, many=None):
         many = rng.randint(0, 12)
     small = rng.random() < 0.5
     return tuple([(rng.choice(cases), rng.randint(0, 3) if small else rng.choice((0, 1, 999, 1000))) for _ in range(many)])
+
+
+# All of these are wrong where a text is asked for.
+NOT_TEXTS = (
+    " " * 401, "4" * 401, "*" * 402, "?" * 1000, "\n", "4: else 0\n", "\n4: else 0", "4:\nelse 0", "4: else\r\n0",
+    " " * 399 + "\n", " " * 400 + "\n", None, True, False, 0, 4, -1, 10 ** 30, (), [], ("4",), ["4"], ((),),
+    ("4", ":", "else", "0"), LISTED, ("self",),
+)
