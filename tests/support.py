@@ -5,7 +5,7 @@ import itertools
 import random
 import unittest
 
-from rulerows.errors import BadValue, NotPossible, RowError, TextError
+from rulerows.errors import BadValue, NotPossible, RowError, TextError, TooLarge
 
 
 def kinds(value):
@@ -40,6 +40,16 @@ class RowsTest(unittest.TestCase):
             self.assertEqual(kinds(error.why), kinds(why), (function.__name__, arguments))
         else:
             self.fail(f"{function.__name__}{short(arguments)} returned {short(got)}, not NotPossible({why!r})")
+
+    def too_large(self, what, function, *arguments):
+        """The call raises TooLarge with this word, and no other class of ours."""
+        try:
+            got = function(*arguments)
+        except RowError as error:
+            self.assertIs(type(error), TooLarge, (function.__name__, arguments))
+            self.assertEqual(kinds(error.what), kinds(what), (function.__name__, arguments))
+        else:
+            self.fail(f"{function.__name__}{short(arguments)} returned {short(got)}, not TooLarge({what!r})")
 
     def problem(self, column, words, function, *arguments):
         """The call raises TextError with this column and these words, and no other class of ours."""
