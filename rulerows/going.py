@@ -52,12 +52,8 @@ def smallest_set(listed):
     """The first of the sets with the fewest rules that, ascending, decide alike."""
     need(is_listed(listed), "listed")
     regions = own_regions(listed)
-    row = ascending_row(listed)
-    for chosen in sets_by_size(row):
-        if wrong_case(listed, regions, chosen) is None:
-            return chosen
-    # The last of the sets has all rules, so this is not reached.
-    return row
+    sets = sets_by_size(ascending_row(listed))
+    return [chosen for chosen in sets if wrong_case(listed, regions, chosen) is None][0]
 
 
 def shortest_row(listed):
